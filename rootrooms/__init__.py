@@ -1,0 +1,1 @@
+"""Meshes of books over rooms and arrows, counts of books, heaps parted."""
