@@ -13,11 +13,17 @@ def is_matrix(thing, *, prime):
     return _is_made(thing, prime)
 
 
+def need_matrix(thing, prime):
+    """Refuse what is no matrix by the prime."""
+    if not _is_made(thing, prime):
+        raise NoMatrix("a matrix by the prime is due")
+
+
 def product(one, other, *, prime):
     """Tell the product of two matrices."""
     need_prime(prime)
-    _need_matrix(one, prime)
-    _need_matrix(other, prime)
+    need_matrix(one, prime)
+    need_matrix(other, prime)
     rows, between, numbers = one
     others, columns, below = other
     if between != others:
@@ -28,8 +34,8 @@ def product(one, other, *, prime):
 def plus(one, other, *, prime):
     """Tell the sum of two matrices of one size."""
     need_prime(prime)
-    _need_matrix(one, prime)
-    _need_matrix(other, prime)
+    need_matrix(one, prime)
+    need_matrix(other, prime)
     if one[:2] != other[:2]:
         raise NoFit("the two are not of one size")
     rows, columns, numbers = one
@@ -41,7 +47,7 @@ def times(number, one, *, prime):
     need_prime(prime)
     if not is_whole(number):
         raise NoNumber("a whole number is due")
-    _need_matrix(one, prime)
+    need_matrix(one, prime)
     # The number may be very long: it is taken by the prime once, not at each place.
     rest = number % prime
     rows, columns, numbers = one
@@ -51,7 +57,7 @@ def times(number, one, *, prime):
 def flipped(one, *, prime):
     """Tell the matrix turned over, rows for columns."""
     need_prime(prime)
-    _need_matrix(one, prime)
+    need_matrix(one, prime)
     rows, columns, numbers = one
     return columns, rows, tuple([tuple([row[k] for row in numbers]) for k in range(columns)])
 
@@ -110,16 +116,11 @@ def _is_row(thing, columns, prime):
     return all([is_whole_to(x, prime - 1) for x in thing])
 
 
-def _need_matrix(thing, prime):
-    if not _is_made(thing, prime):
-        raise NoMatrix("a matrix by the prime is due")
-
-
 def _need_matrices(things, prime):
     if not isinstance(things, list):
         raise NoMatrix("a list of matrices is due")
     for thing in things:
-        _need_matrix(thing, prime)
+        need_matrix(thing, prime)
 
 
 def _need_size(thing):

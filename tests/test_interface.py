@@ -1,8 +1,13 @@
-"""Each name of the document's interface that has landed: where it is defined, and what it takes."""
+"""Each name of the document's interface that has landed: where it is defined, and what it takes.
+
+What the interface calls map is called led here, for map is a builtin's name; it is handed in by its place.
+"""
 
 import importlib
 import inspect
 import unittest
+
+from rootrooms.nets import Net
 
 # In each file the functions, with the arguments by their places and those by their names.
 FUNCTIONS = {
@@ -17,6 +22,41 @@ FUNCTIONS = {
         "above": (["matrices"], ["columns", "prime"]),
         "ones": (["many"], []),
         "noughts": (["rows", "columns"], []),
+    },
+    "lines": {
+        "least": (["one"], ["prime"]),
+        "rank": (["one"], ["prime"]),
+        "kills": (["one"], ["prime"]),
+        "fills": (["one"], ["prime"]),
+        "undo": (["one"], ["prime"]),
+        "solved": (["one", "right"], ["prime"]),
+    },
+    "nets": {
+        "is_heap": (["net", "thing"], []),
+        "form": (["net", "one", "other"], []),
+        "pieces": (["net"], []),
+        "kinds": (["net"], []),
+        "is_few": (["net"], []),
+        "bar": (["net"], []),
+        "sinks": (["net"], []),
+        "sources": (["net"], []),
+        "heap_turned": (["net", "heap", "room"], []),
+    },
+    "roots": {
+        "roots": (["net"], []),
+        "ladder": (["net"], []),
+        "before": (["net", "root"], []),
+        "behind": (["net", "root"], []),
+    },
+    "books": {
+        "is_book": (["net", "thing"], []),
+        "is_map": (["net", "one", "other", "thing"], []),
+        "nought_book": (["net"], []),
+        "alone": (["net", "room"], []),
+        "joined": (["net", "books"], []),
+        "followed": (["net", "one", "other", "third", "first", "second"], []),
+        "ones_of": (["net", "book"], []),
+        "undone": (["net", "one", "other", "led"], []),
     },
 }
 
@@ -35,6 +75,14 @@ class InterfaceTest(unittest.TestCase):
                     self.assertEqual([x.name for x in told if x.kind is x.KEYWORD_ONLY], by_name)
                     self.assertEqual(len(told), len(by_place) + len(by_name))
                     self.assertTrue(all(x.default is x.empty for x in told))
+
+    def test_the_class_net(self):
+        self.assertEqual(Net.__module__, "rootrooms.nets")
+        self.assertEqual(str(inspect.signature(Net)), "(rooms, arrows, *, prime=2)")
+        for name in ["__init__", "__eq__", "__len__", "turned"]:
+            self.assertIn(name, vars(Net))
+        self.assertEqual(str(inspect.signature(Net.turned)), "(self, room)")
+        self.assertEqual(vars(Net(2, ((0, 1),), prime=3)), {"rooms": 2, "arrows": ((0, 1),), "prime": 3})
 
 
 if __name__ == "__main__":

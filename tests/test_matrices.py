@@ -1,40 +1,9 @@
-import random
 import unittest
 
 from rootrooms.errors import NoFit, NoMatrix, NoNumber, NoPrime
 from rootrooms.matrices import above, beside, flipped, is_matrix, noughts, ones, plus, product, times
-from tests.things import BAD, GOOD, NO_MATRICES, NO_PRIMES, NO_SIZES, NO_WHOLES, PRIMES, VERY_LONG, Refusals
-
-SOME_PRIMES = [2, 3, 5, 31, 97]
-SIZES = [(rows, columns) for rows in range(4) for columns in range(4)]
-
-
-def made(rows, columns, entry):
-    """Return a matrix by what stands at each row and column."""
-    return rows, columns, tuple(tuple(entry(i, k) for k in range(columns)) for i in range(rows))
-
-
-def drawn(rows, columns, prime, seed=0):
-    """Return a matrix by chance, the same for the same seed."""
-    chance = random.Random(f"{rows} {columns} {prime} {seed}")
-    return made(rows, columns, lambda i, k: chance.choice([0, prime - 1, chance.randrange(prime)]))
-
-
-class MatrixChecks(Refusals):
-
-    def told(self, matrix, expected, prime):
-        """The matrix is made as the document tells, of tuples and whole numbers alone, and is the expected one."""
-        self.assertEqual(matrix, expected)
-        self.assertIs(type(matrix), tuple)
-        rows, columns, numbers = matrix
-        self.assertIs(type(numbers), tuple)
-        for thing in [rows, columns, *(x for row in numbers for x in row)]:
-            self.assertIs(type(thing), int)
-        for row in numbers:
-            self.assertIs(type(row), tuple)
-            self.assertEqual(len(row), columns)
-        self.assertEqual(len(numbers), rows)
-        self.assertTrue(all(0 <= x < prime for row in numbers for x in row))
+from tests.samples import SIZES, SOME_PRIMES, MatrixChecks, drawn, made
+from tests.things import BAD, GOOD, NO_MATRICES, NO_PRIMES, NO_SIZES, NO_WHOLES, PRIMES, VERY_LONG
 
 
 class IsMatrixTest(MatrixChecks, unittest.TestCase):
