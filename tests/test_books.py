@@ -4,56 +4,12 @@ import unittest
 from rootrooms.books import alone, followed, is_book, is_map, joined, nought_book, ones_of, undone
 from rootrooms.errors import NoBook, NoMap, NoRoom, TooGreat
 from rootrooms.nets import Net
-from tests.samples import (
-    MatrixChecks, all_maps, all_matrices, arrow_sizes, bare_book, book_nets, changed, drawn, drawn_book, drawn_heap,
-    empty, is_map_of, mixed_book, nought_map, ones_map, otherwise, rank_of, some_books, times_by, unit,
+from tests.samples import all_matrices, drawn, empty, rank_of, times_by, unit
+from tests.shelf import (
+    BOOK, NET, NO_BOOKS, BookChecks, all_maps, bare_book, book_nets, changed, drawn_book, drawn_heap, is_map_of,
+    mixed_book, no_books, nought_map, ones_map, otherwise, some_books,
 )
 from tests.things import NO_MATRICES, NO_WHOLES, VERY_LONG
-
-NET = Net(3, ((0, 1), (2, 1), (0, 1), (2, 0)), prime=5)
-BOOK = ((2, 1, 1), ((1, 2, ((1, 2),)), (1, 1, ((4,),)), (1, 2, ((0, 3),)), (2, 1, ((2,), (0,)))))
-
-
-def no_books(net, book):
-    """Return what differs from this book by one thing, and anything else that is no book over the net."""
-    heap, maps = book
-    found = [(heap, wrong) for wrong in otherwise(maps, net.prime)]
-    heaps = [list(heap), heap + (0,), heap[1:], (13,) + heap[1:], (-1,) + heap[1:], (True,) + heap[1:], None, 0, "abc", ()]
-    found += [(wrong, maps) for wrong in heaps]
-    for room in range(net.rooms):
-        # A heap that the matrices don't fit.
-        if any(room in arrow for arrow in net.arrows):
-            found.append((heap[:room] + (heap[room] + 1,) + heap[room + 1:], maps))
-    found += [[heap, maps], (heap,), (maps,), (maps, heap), (heap, maps, ()), (heap, maps, None), ((heap, maps),)]
-    return found + NO_MATRICES
-
-
-# Things that are no book over NET nor, but for a few nets, over any other one.
-NO_BOOKS = no_books(NET, BOOK)
-
-
-class BookChecks(MatrixChecks):
-
-    def is_made_book(self, net, book):
-        """The book is one over the net, made of tuples and whole numbers alone."""
-        self.assertIs(is_book(net, book), True)
-        heap, maps = book
-        for thing in [book, heap, maps]:
-            self.assertIs(type(thing), tuple)
-        for number in heap:
-            self.assertIs(type(number), int)
-        self.assertEqual([matrix[:2] for matrix in maps], arrow_sizes(net, heap, heap))
-        for matrix in maps:
-            self.is_made(matrix, net.prime)
-
-    def is_made_map(self, net, one, other, thing):
-        """The thing is a map of one to other, made of tuples and whole numbers alone."""
-        self.assertIs(type(thing), tuple)
-        self.assertEqual([matrix[:2] for matrix in thing], list(zip(other[0], one[0])))
-        for matrix in thing:
-            self.is_made(matrix, net.prime)
-        self.assertTrue(is_map_of(net, one, other, thing))
-        self.assertIs(is_map(net, one, other, thing), True)
 
 
 class IsBookTest(BookChecks, unittest.TestCase):

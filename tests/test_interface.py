@@ -58,6 +58,19 @@ FUNCTIONS = {
         "ones_of": (["net", "book"], []),
         "undone": (["net", "one", "other", "led"], []),
     },
+    "cuts": {
+        "killed": (["net", "one", "other", "led"], []),
+        "hit": (["net", "one", "other", "led"], []),
+        "left": (["net", "one", "other", "led"], []),
+        "arrows_hit": (["net", "book"], []),
+    },
+    "between": {"maps": (["net", "one", "other"], [])},
+    "ties": {
+        "is_tie": (["net", "over", "under", "thing"], []),
+        "ties": (["net", "over", "under"], []),
+        "tied": (["net", "over", "under", "tie"], []),
+        "held": (["net", "over", "under", "tie"], []),
+    },
 }
 
 

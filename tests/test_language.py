@@ -17,6 +17,8 @@ BUILTINS = {
 METHODS = {"__init__", "__eq__", "__repr__", "__str__", "__len__"}
 NOT_USED = (
     ast.Import, ast.Global, ast.Div, ast.MatMult, ast.AsyncFunctionDef, ast.AsyncFor, ast.AsyncWith, ast.Await,
+    # Beside a class with __eq__ these are lists.
+    ast.GeneratorExp,
 )
 
 TEXTS = [(path.name, path.read_text("utf-8")) for path in FILES]
@@ -85,6 +87,19 @@ class LanguageTest(unittest.TestCase):
             self.assertEqual(node.decorator_list, [], place)
         for place, node in parts(ast.Constant):
             self.assertNotIsInstance(node.value, (float, complex), place)
+
+    def test_sets_are_sorted_on_the_spot(self):
+        spots = {id(part) for _, node in parts(ast.Call) if getattr(node.func, "id", None) == "sorted"
+                 for part in node.args}
+        for place, node in parts((ast.Set, ast.SetComp)):
+            self.assertIn(id(node), spots, place)
+
+    def test_no_variable_has_the_name_of_an_import(self):
+        for file, tree in TREES:
+            imported = {name.name for node in tree.body if isinstance(node, ast.ImportFrom) for name in node.names}
+            bound = {node.id for node in ast.walk(tree) if isinstance(node, ast.Name) and isinstance(node.ctx, ast.Store)}
+            bound |= {node.arg for node in ast.walk(tree) if isinstance(node, ast.arg)}
+            self.assertEqual(imported & bound, set(), file)
 
     def test_names(self):
         for place, node in parts(ast.Name):

@@ -12,8 +12,15 @@ MANY = {"row": lambda n: n * (n + 1) // 2, "fork": lambda n: n * (n - 1), "hand"
 # Some few nets of several pieces.
 BESIDE = [
     side_by_side(*pieces) for pieces in [
-        [(1, []), (1, [])], [(2, row(2)), (1, []), (3, row(3))], [(4, fork(4)), (4, fork(4))], [(6, hand(6)), (2, row(2))],
-        [(7, hand(7)), (1, [])], [(5, fork(5)), (3, row(3))], [(1, [])] * 8, [(2, row(2))] * 4, [(4, row(4)), (4, fork(4))],
+        [(1, []), (1, [])],
+        [(2, row(2)), (1, []), (3, row(3))],
+        [(4, fork(4)), (4, fork(4))],
+        [(6, hand(6)), (2, row(2))],
+        [(7, hand(7)), (1, [])],
+        [(5, fork(5)), (3, row(3))],
+        [(4, row(4)), (4, fork(4))],
+        [(2, row(2))] * 4,
+        [(1, [])] * 8,
     ]
 ]
 
