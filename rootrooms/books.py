@@ -47,8 +47,8 @@ def joined(net, books):
     """Tell the joined book of books in their order."""
     if not isinstance(books, list):
         raise NoBook("a list of books is due")
-    for book in books:
-        need_book(net, book)
+    for thing in books:
+        need_book(net, thing)
     heap = tuple([sum([book[0][room] for book in books]) for room in range(net.rooms)])
     if not is_heap(net, heap):
         raise TooGreat("the heaps of the books come to no heap")
