@@ -65,7 +65,7 @@ def followed(net, one, other, third, first, second):
     need_book(net, third)
     need_map(net, one, other, first)
     need_map(net, other, third, second)
-    return tuple([product(then, led, prime=net.prime) for led, then in zip(first, second)])
+    return led_on(net, first, second)
 
 
 def ones_of(net, book):
@@ -83,6 +83,11 @@ def undone(net, one, other, led):
     if None in back:
         return None
     return tuple(back)
+
+
+def led_on(net, first, second):
+    """Tell room by room the second map's matrix behind the first one's."""
+    return tuple([product(then, led, prime=net.prime) for led, then in zip(first, second)])
 
 
 def room_sizes(one, other):

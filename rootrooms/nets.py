@@ -112,13 +112,18 @@ def heap_turned(net, heap, room):
     """Tell the heap turned at a room: it may have a number below 0 there."""
     need_heap(net, heap)
     need_room(net, room)
-    there = sum([heap[other] for other in _others(net, room)]) - heap[room]
+    there = sum([heap[other] for other in others(net, room)]) - heap[room]
     return heap[:room] + (there,) + heap[room + 1:]
 
 
 def single(net, room):
     """Tell the heap of 1 at this room, 0 else."""
     return tuple([1 if k == room else 0 for k in range(net.rooms)])
+
+
+def others(net, room):
+    """Tell the other ends of a room's arrows, one for each arrow."""
+    return [begin + end - room for begin, end in net.arrows if room in (begin, end)]
 
 
 def grown(net):
@@ -136,7 +141,7 @@ def grown(net):
         greater = {}
         for heap in level:
             for room in range(net.rooms):
-                change = 2 * heap[room] - sum([heap[other] for other in _others(net, room)])
+                change = 2 * heap[room] - sum([heap[other] for other in others(net, room)])
                 if change < -1:
                     return told, _raised(heap, room)
                 if change == -1:
@@ -155,29 +160,24 @@ def _is_arrow(thing, rooms):
     return all([is_whole_to(room, rooms - 1) for room in thing]) and thing[0] != thing[1]
 
 
-def _others(net, room):
-    """Tell the other ends of a room's arrows, one for each arrow."""
-    return [begin + end - room for begin, end in net.arrows if room in (begin, end)]
-
-
 def _reached(net, room):
     told = [room]
     at = 0
     while at < len(told):
-        told = told + sorted({other for other in _others(net, told[at]) if other not in told})
+        told = told + sorted({other for other in others(net, told[at]) if other not in told})
         at += 1
     return told
 
 
 def _kind(net, piece):
     many = len(piece)
-    branches = [room for room in piece if len(_others(net, room)) > 2]
+    branches = [room for room in piece if len(others(net, room)) > 2]
     # What hangs together by one arrow less than its rooms has no ring and no two arrows between two rooms.
     if _ends(net, piece) != 2 * many - 2 or len(branches) > 1:
         return "more", many
     if not branches:
         return "row", many
-    arms = sorted([_arm(net, branches[0], room) for room in _others(net, branches[0])])
+    arms = sorted([_arm(net, branches[0], room) for room in others(net, branches[0])])
     if len(arms) == 3 and arms[:2] == [1, 1]:
         return "fork", many
     if len(arms) == 3 and arms[:2] == [1, 2] and arms[2] <= 4:
@@ -187,15 +187,15 @@ def _kind(net, piece):
 
 def _ends(net, piece):
     """Tell how many ends of arrows a piece has, two for each arrow."""
-    return sum([len(_others(net, room)) for room in piece])
+    return sum([len(others(net, room)) for room in piece])
 
 
 def _arm(net, before, room):
     """Tell how many rooms there are from this one on, away from the one before."""
     many = 1
-    onward = [other for other in _others(net, room) if other != before]
+    onward = [other for other in others(net, room) if other != before]
     while onward:
         before, room = room, onward[0]
-        onward = [other for other in _others(net, room) if other != before]
+        onward = [other for other in others(net, room) if other != before]
         many += 1
     return many

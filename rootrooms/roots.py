@@ -30,7 +30,7 @@ def before(net, root):
     """Tell the root z with form(y, z) = -form(root, y) for all heaps y, or None."""
     need_few(net)
     need_root(net, root)
-    return _shifted(net.arrows, _sinks_first(net), root)
+    return _shifted(net.arrows, sinks_first(net), root)
 
 
 def behind(net, root):
@@ -40,16 +40,31 @@ def behind(net, root):
     return _behind(net, root)
 
 
+def is_root(net, thing):
+    """Tell of anything whether it is a root of a few net."""
+    return is_heap(net, thing) and form(net, thing, thing) == 1
+
+
 def need_root(net, thing):
     """Refuse what is no root of a few net."""
-    if not is_heap(net, thing) or form(net, thing, thing) != 1:
+    if not is_root(net, thing):
         raise NoRoot("a root of the net is due")
+
+
+def sinks_first(net):
+    """Tell the rooms in an order in which each arrow's end stands ahead of its begin."""
+    told = []
+    while len(told) < net.rooms:
+        for room in range(net.rooms):
+            if room not in told and all([end in told for begin, end in net.arrows if begin == room]):
+                told.append(room)
+    return told
 
 
 def _behind(net, root):
     """Behind is what is before where all arrows are turned over, for this changes the sides of the form."""
     over = [(end, begin) for begin, end in net.arrows]
-    return _shifted(over, list(reversed(_sinks_first(net))), root)
+    return _shifted(over, list(reversed(sinks_first(net))), root)
 
 
 def _shifted(arrows, order, root):
@@ -71,20 +86,10 @@ def _shifted(arrows, order, root):
 def _firsts(net):
     """Tell the roots that none is before: at each room as many as there are ways along the arrows to it."""
     told = {}
-    for room in _sinks_first(net):
+    for room in sinks_first(net):
         heap = single(net, room)
         for begin, end in net.arrows:
             if begin == room:
                 heap = tuple([x + y for x, y in zip(heap, told[end])])
         told[room] = heap
     return list(told.values())
-
-
-def _sinks_first(net):
-    """Tell the rooms in an order in which each arrow's end stands ahead of its begin."""
-    told = []
-    while len(told) < net.rooms:
-        for room in range(net.rooms):
-            if room not in told and all([end in told for begin, end in net.arrows if begin == room]):
-                told.append(room)
-    return told
