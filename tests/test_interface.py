@@ -7,6 +7,7 @@ import importlib
 import inspect
 import unittest
 
+from rootrooms.house import House
 from rootrooms.nets import Net
 
 # In each file the functions, with the arguments by their places and those by their names.
@@ -71,6 +72,62 @@ FUNCTIONS = {
         "tied": (["net", "over", "under", "tie"], []),
         "held": (["net", "over", "under", "tie"], []),
     },
+    "turning": {
+        "turned": (["net", "book", "room"], []),
+        "turned_map": (["net", "one", "other", "led"], ["room"]),
+        "returned": (["net", "book", "room"], []),
+    },
+    "parts": {
+        "part": (["net", "root"], []),
+        "is_counts": (["net", "thing"], []),
+        "book_of": (["net", "counts"], []),
+        "parts": (["net", "book"], []),
+        "alike": (["net", "one", "other"], []),
+    },
+    "meshes": {
+        "mesh": (["net", "root"], []),
+        "lifted": (["net", "root", "book", "led"], []),
+        "steps": (["net", "root"], []),
+    },
+    "parted": {
+        "heap_of": (["net", "counts"], []),
+        "many_maps": (["net", "one", "other"], []),
+        "many_ties": (["net", "over", "under"], []),
+        "parted": (["net", "heap"], []),
+        "plain": (["net", "heap"], []),
+        "below": (["net", "one", "other"], []),
+    },
+    "lowering": {"lowered": (["net", "counts"], [])},
+    "counting": {
+        "many_selves": (["net", "counts"], []),
+        "many_alike": (["net", "counts"], []),
+        "many_under": (["net", "book", "top", "under"], []),
+        "many_tied": (["net", "whole", "top", "under"], []),
+    },
+    "looker": {"look": (["net", "paper"], [])},
+}
+
+# Each method of a house, with the arguments by their places and those by their names.
+HOUSE_METHODS = {
+    "put": (["name", "book"], []),
+    "swap": (["name", "book"], []),
+    "join": (["name", "one", "other"], []),
+    "tie": (["name", "over", "under", "tie"], []),
+    "kill": (["name", "one", "other", "led"], []),
+    "leave": (["name", "one", "other", "led"], []),
+    "change": (["name", "arrow"], ["row", "column", "number"]),
+    "take_out": (["name"], []),
+    "turn": (["room"], []),
+    "mark": ([], []),
+    "back": (["number"], []),
+    "net": ([], []),
+    "names": ([], []),
+    "marks": ([], []),
+    "book": (["name"], []),
+    "parts": (["name"], []),
+    "alike": (["one", "other"], []),
+    "maps": (["one", "other"], []),
+    "ties": (["over", "under"], []),
 }
 
 
@@ -83,11 +140,22 @@ class InterfaceTest(unittest.TestCase):
                 with self.subTest(file=file, name=name):
                     function = getattr(module, name)
                     self.assertEqual(function.__module__, f"rootrooms.{file}")
-                    told = inspect.signature(function).parameters.values()
-                    self.assertEqual([x.name for x in told if x.kind is x.POSITIONAL_OR_KEYWORD], by_place)
-                    self.assertEqual([x.name for x in told if x.kind is x.KEYWORD_ONLY], by_name)
-                    self.assertEqual(len(told), len(by_place) + len(by_name))
-                    self.assertTrue(all(x.default is x.empty for x in told))
+                    self.takes(function, by_place, by_name)
+
+    def takes(self, function, by_place, by_name):
+        """The function takes just these arguments, each of which is due."""
+        told = inspect.signature(function).parameters.values()
+        self.assertEqual([x.name for x in told if x.kind is x.POSITIONAL_OR_KEYWORD], by_place)
+        self.assertEqual([x.name for x in told if x.kind is x.KEYWORD_ONLY], by_name)
+        self.assertEqual(len(told), len(by_place) + len(by_name))
+        self.assertTrue(all(x.default is x.empty for x in told))
+
+    def test_the_class_house(self):
+        self.assertEqual(House.__module__, "rootrooms.house")
+        self.takes(House, ["net"], [])
+        for name, (by_place, by_name) in HOUSE_METHODS.items():
+            with self.subTest(name=name):
+                self.takes(vars(House)[name], ["self"] + by_place, by_name)
 
     def test_the_class_net(self):
         self.assertEqual(Net.__module__, "rootrooms.nets")

@@ -16,7 +16,8 @@ BUILTINS = {
 }
 METHODS = {"__init__", "__eq__", "__repr__", "__str__", "__len__"}
 NOT_USED = (
-    ast.Import, ast.Global, ast.Div, ast.MatMult, ast.AsyncFunctionDef, ast.AsyncFor, ast.AsyncWith, ast.Await,
+    ast.Import, ast.Global, ast.Div, ast.MatMult, ast.Pow,
+    ast.AsyncFunctionDef, ast.AsyncFor, ast.AsyncWith, ast.Await,
     # Beside a class with __eq__ these are lists.
     ast.GeneratorExp,
 )
