@@ -270,7 +270,8 @@ class TiedTest(FewChecks, unittest.TestCase):
     def test_too_many(self):
         net = Net(2, ((0, 1),), prime=2)
         begin, end, both = (1, 0), (0, 1), (1, 1)
-        for top, under, fits in [(5, 2, True), (2, 5, True), (10, 1, True), (11, 1, False), (4, 3, False), (6, 2, False)]:
+        cases = [(5, 2, True), (2, 5, True), (10, 1, True), (11, 1, False), (4, 3, False), (6, 2, False)]
+        for top, under, fits in cases:
             whole = ((end, under), (begin, top))
             if fits:
                 self.assertEqual(many_tied(net, whole, ((begin, top),), ((end, under),)), 1)

@@ -226,7 +226,8 @@ class RefusalsTest(HouseChecks, unittest.TestCase):
     def new_name_deeds(self, house):
         """Return each deed by a new name, with what else it takes."""
         return [
-            (house.put, [], [ONE]), (house.join, ["one", "b"], []), (house.tie, ["one", "b"], [drawn_tie(NET, ONE, OTHER)]),
+            (house.put, [], [ONE]), (house.join, ["one", "b"], []),
+            (house.tie, ["one", "b"], [drawn_tie(NET, ONE, OTHER)]),
             (house.kill, ["one", "b"], [nought_map(ONE, OTHER)]), (house.leave, ["one", "b"], [nought_map(ONE, OTHER)]),
         ]
 

@@ -302,7 +302,8 @@ class BarTest(LookerChecks, unittest.TestCase):
             else:
                 self.looked(RIGHT, net, "bar", bar(net))
         net = Net(2, ((0, 1), (0, 1)))
-        for heap, told in [((1, 1), RIGHT), ((2, 2), RIGHT), ((1, 2), wrong(1)), ((0, 1), wrong(1)), ((0, 0), wrong(0))]:
+        cases = [((1, 1), RIGHT), ((2, 2), RIGHT), ((1, 2), wrong(1)), ((0, 1), wrong(1)), ((0, 0), wrong(0))]
+        for heap, told in cases:
             self.looked(told, net, "bar", heap)
         net = Net(2, ((0, 1), (1, 0), (0, 1)))
         self.looked(RIGHT, net, "bar", (1, 2))
@@ -384,7 +385,7 @@ class MeshPapersTest(LookerChecks, unittest.TestCase):
     def test_what_is_tied_has_no_way_back_where_it_is_held(self):
         for net in nets_of(SHAPES[:6]):
             for seed in range(3):
-                over, under = book_of(net, drawn_counts(net, 2, 1, seed)), book_of(net, drawn_counts(net, 2, 1, seed + 7))
+                over, under = [book_of(net, drawn_counts(net, 2, 1, at)) for at in [seed, seed + 7]]
                 tie = drawn_tie(net, over, under, seed)
                 word, found = held(net, over, under, tie)
                 book, _, way_out = tied(net, over, under, tie)

@@ -9,7 +9,7 @@ from rootrooms.parts import part
 from rootrooms.roots import roots
 from rootrooms.turning import returned, turned, turned_map
 from tests.few import ANYTHING, SHAPES, FewChecks, nets_of
-from tests.samples import all_matrices, empty, lined_up, rank_of, stacked, times_by, unit
+from tests.samples import all_matrices, empty, flipped_over, lined_up, rank_of, stacked, times_by, unit
 from tests.shelf import (
     NO_BOOKS, alone_book, bare_book, book_nets, drawn_book, drawn_heap, mixed_book, nought_map, ones_map, otherwise,
     some_books, summed,
@@ -183,8 +183,7 @@ class TurnedTest(FewChecks, unittest.TestCase):
                     matrix = (heap[1], heap[other], tuple(
                         tuple(int(k - first == i) for i in range(heap[other])) for k in range(heap[1])))
                     first += heap[other]
-                    maps_told.append(matrix if end == 1 else tuple(
-                        [heap[other], heap[1], tuple(tuple(line[k] for line in matrix[2]) for k in range(heap[other]))]))
+                    maps_told.append(matrix if end == 1 else flipped_over(matrix))
                 book = (heap, tuple(maps_told))
                 if fits:
                     self.is_turned(ways, book, 1)
